@@ -1,0 +1,1 @@
+"""Wishes made small: puzzles of wishes and of gates."""
