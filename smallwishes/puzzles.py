@@ -3,12 +3,12 @@
 A puzzle's row is n, k, then each of its rows behind how many numbers this has.
 """
 
+# The kinds; threes, 1, are right as wishes are and so are never asked for by name.
 WISHES = 0
-THREES = 1
 JUST_ONE = 2
 NOT_ALL_ALIKE = 3
 GATES = 4
-KINDS = (WISHES, THREES, JUST_ONE, NOT_ALL_ALIKE, GATES)
+LAST_KIND = 4
 
 NEVER_UP = 0
 UP_IF_NOT = 1
@@ -20,6 +20,8 @@ WRONG_PUZZLE = -22
 TOO_LARGE = -28
 
 MOST_SIZE = 1000
+# Twelve numbers, each 0 or 1, make 4,096 lists: the bound on lists asks nothing more.
+MOST_NUMBERS_TRIED = 12
 MOST_SAYINGS_OF_THREES = 3
 
 
@@ -74,7 +76,7 @@ def are_gates(rows, n):
     for row in rows:
         if not is_gate(row, line):
             return False
-        line += 1
+        line = line + 1
     return True
 
 
@@ -93,7 +95,7 @@ def is_of_kind(c, n, rows):
 def refusal(c, p):
     """The refusal that is due whatever is asked of p as a puzzle of kind c; 0 if none is."""
     rows = rows_of(p)
-    if c not in KINDS or rows is None:
+    if c > LAST_KIND or rows is None:
         return WRONG_PUZZLE
     n = p[0]
     k = p[1]
@@ -161,6 +163,14 @@ def tells_each(s, n):
     return len(s) == n and all([number <= 1 for number in s])
 
 
+def lists_to_try(n):
+    """All lists of n numbers 0 or 1, in order."""
+    lists = [[]]
+    for flag in range(n):
+        lists = [[0] + rest for rest in lists] + [[1] + rest for rest in lists]
+    return lists
+
+
 def right(c, p, s):
     """Answers 1 if s is a right solution of p, a puzzle of kind c, else 0."""
     refused = refusal(c, p)
@@ -169,3 +179,15 @@ def right(c, p, s):
     if tells_each(s, p[0]) and solves(c, rows_of(p), s):
         return [1]
     return [0]
+
+
+def many(c, p):
+    """Answers how many right solutions p has, a puzzle of kind c."""
+    refused = refusal(c, p)
+    if refused < 0:
+        return [refused]
+    n = p[0]
+    if n > MOST_NUMBERS_TRIED:
+        return [TOO_LARGE]
+    rows = rows_of(p)
+    return [len([s for s in lists_to_try(n) if solves(c, rows, s)])]
