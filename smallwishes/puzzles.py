@@ -18,6 +18,7 @@ UP_IF_JUST_ONE = 4
 
 WRONG_PUZZLE = -22
 TOO_LARGE = -28
+NO_SOLUTION = -6
 
 MOST_SIZE = 1000
 # Twelve numbers, each 0 or 1, make 4,096 lists: the bound on lists asks nothing more.
@@ -106,6 +107,16 @@ def refusal(c, p):
     return 0
 
 
+def refusal_to_try(c, p):
+    """The refusal that is due where all lists that may be solutions are tried; 0 if none is."""
+    refused = refusal(c, p)
+    if refused < 0:
+        return refused
+    if p[0] > MOST_NUMBERS_TRIED:
+        return TOO_LARGE
+    return 0
+
+
 def is_met(saying, s):
     """Whether the saying is so when the flags are as s tells."""
     says_up = saying % 2 == 0
@@ -171,6 +182,11 @@ def lists_to_try(n):
     return lists
 
 
+def counted(numbers):
+    """The numbers behind how many they are."""
+    return [len(numbers)] + numbers
+
+
 def right(c, p, s):
     """Answers 1 if s is a right solution of p, a puzzle of kind c, else 0."""
     refused = refusal(c, p)
@@ -183,11 +199,20 @@ def right(c, p, s):
 
 def many(c, p):
     """Answers how many right solutions p has, a puzzle of kind c."""
-    refused = refusal(c, p)
+    refused = refusal_to_try(c, p)
     if refused < 0:
         return [refused]
-    n = p[0]
-    if n > MOST_NUMBERS_TRIED:
-        return [TOO_LARGE]
     rows = rows_of(p)
-    return [len([s for s in lists_to_try(n) if solves(c, rows, s)])]
+    return [len([s for s in lists_to_try(p[0]) if solves(c, rows, s)])]
+
+
+def first(c, p):
+    """Answers how many numbers the first right solution of p has, a puzzle of kind c, then these."""
+    refused = refusal_to_try(c, p)
+    if refused < 0:
+        return [refused]
+    rows = rows_of(p)
+    for s in lists_to_try(p[0]):
+        if solves(c, rows, s):
+            return counted(s)
+    return [NO_SOLUTION]

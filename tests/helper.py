@@ -101,6 +101,47 @@ def wrong_calls():
     return calls
 
 
+def wrong_and_large_calls():
+    """Pairs of a kind and a row that are refused by point 1 ahead of point 2."""
+    calls = []
+    for n in (13, 1001):
+        for c in KINDS:
+            calls += [(c, row_of(n, (), 1)), (c, row_of(n) + [1]), (c, row_of(n, [[2, 2]]))]
+        calls += [(c, row_of(n, [[0, 2, 4, 6]])) for c in THREE_KINDS]
+        calls += [(GATES, row_of(n, [[5, 0, 0]])), (5, row_of(n)), (GREATEST_KIND, row_of(n))]
+    gate = [4, GREATEST_NUMBER, GREATEST_NUMBER]
+    return calls + [(GATES, row_of(GREATEST_NUMBER, [gate]))]
+
+
+def calls_too_large_to_try():
+    """Pairs of a kind and a row of which each is refused by point 2 where all lists are tried."""
+    calls = []
+    for c in KINDS:
+        calls += [(c, row_of(n)) for n in (13, 14, 64, 1000, 1001, GREATEST_NUMBER)]
+    for c in WISH_KINDS:
+        # An empty wish has no right solution, but to be too large comes first.
+        calls += [(c, row_of(n, [[]])) for n in (13, 1001)]
+        calls += [(c, row_of(GREATEST_NUMBER // 2 + 1, [[GREATEST_NUMBER]]))]
+    gate = [4, GREATEST_NUMBER, GREATEST_NUMBER]
+    calls += [(GATES, row_of(n, [[0, 0, 0]])) for n in (13, 1001)]
+    return calls + [(GATES, row_of(GREATEST_NUMBER, [[0, 0, 0], gate]))]
+
+
+def mixed_calls():
+    """Pairs of a kind and a row: such as are answered, and such as are refused."""
+    return [
+        (0, row_of(3, [[0, 2, 4], [1]])),
+        (1, row_of(3, [[0, 2, 4], [1]])),
+        (2, row_of(3, [[0, 2, 4]])),
+        (3, row_of(3, [[0, 2, 4]])),
+        (3, row_of(3, [[0, 2, 4], [1]])),
+        (GATES, row_of(2, [[4, 0, 1], [1, 2, 0]])),
+        (GATES, row_of(2, [[4, 1, 0]])),
+        (0, row_of(13)),
+        (0, []),
+    ]
+
+
 def not_rows():
     """Lists that aren't a puzzle's row, whatever the kind."""
     return [

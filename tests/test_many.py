@@ -5,7 +5,8 @@ import unittest
 from smallwishes.puzzles import many, right
 from tests.helper import (
     GATES, GREATEST_KIND, GREATEST_NUMBER, KINDS, THREE_KINDS, TOO_LARGE, WISH_KINDS, WRONG,
-    judged_right, lists_of, row_of, small_puzzles, wrong_calls,
+    calls_too_large_to_try, judged_right, lists_of, mixed_calls, row_of, small_puzzles,
+    wrong_and_large_calls, wrong_calls,
 )
 
 
@@ -135,32 +136,18 @@ class Refusals(unittest.TestCase):
     def test_how_many_numbers(self):
         for c in WISH_KINDS:
             self.assertEqual(many(c, row_of(12)), [4096])
-            self.assertEqual(many(c, row_of(13)), TOO_LARGE)
-            self.assertEqual(many(c, row_of(13, [[]])), TOO_LARGE)
         self.assertEqual(many(GATES, row_of(12)), [2048])
         self.assertEqual(many(GATES, row_of(12, [[3, 0, 11]])), [3072])
-        self.assertEqual(many(GATES, row_of(13)), TOO_LARGE)
-        self.assertEqual(many(GATES, row_of(13, [[0, 0, 0]])), TOO_LARGE)
         # Lines that gates make aren't told by a solution, so they don't count.
         self.assertEqual(many(GATES, row_of(12, [[0, 0, 0]] * 20 + [[1, 12, 0]])), [4096])
 
-    def test_size(self):
-        for c in KINDS:
-            for n in (14, 64, 1000, 1001, GREATEST_NUMBER):
-                self.assertEqual(many(c, row_of(n)), TOO_LARGE)
+    def test_too_large(self):
+        for c, p in calls_too_large_to_try():
+            self.assertEqual(many(c, p), TOO_LARGE, (c, p))
 
     def test_point_1_comes_ahead_of_point_2(self):
-        for c in KINDS:
-            for n in (13, 1001):
-                self.assertEqual(many(c, row_of(n, (), 1)), WRONG)
-                self.assertEqual(many(c, row_of(n) + [1]), WRONG)
-                self.assertEqual(many(c, row_of(n, [[2, 2]])), WRONG)
-        for n in (13, 1001):
-            for c in THREE_KINDS:
-                self.assertEqual(many(c, row_of(n, [[0, 2, 4, 6]])), WRONG)
-            self.assertEqual(many(GATES, row_of(n, [[5, 0, 0]])), WRONG)
-            self.assertEqual(many(5, row_of(n)), WRONG)
-            self.assertEqual(many(GREATEST_KIND, row_of(n)), WRONG)
+        for c, p in wrong_and_large_calls():
+            self.assertEqual(many(c, p), WRONG, (c, p))
 
 
 class LongestAndGreatest(unittest.TestCase):
@@ -198,16 +185,8 @@ class LongestAndGreatest(unittest.TestCase):
         self.assertEqual(many(GATES, row_of(12, rows)), [2048])
 
     def test_greatest_numbers(self):
-        for c in KINDS:
+        for c in KINDS + (5, GREATEST_KIND):
             self.assertEqual(many(c, [GREATEST_NUMBER] * 400), WRONG)
-            self.assertEqual(many(c, row_of(GREATEST_NUMBER)), TOO_LARGE)
-        for c in WISH_KINDS:
-            flags = GREATEST_NUMBER // 2
-            self.assertEqual(many(c, row_of(flags + 1, [[GREATEST_NUMBER]])), TOO_LARGE)
-            self.assertEqual(many(c, row_of(flags, [[GREATEST_NUMBER]])), WRONG)
-        gate = [4, GREATEST_NUMBER, GREATEST_NUMBER]
-        self.assertEqual(many(GATES, row_of(GREATEST_NUMBER, [gate])), WRONG)
-        self.assertEqual(many(GATES, row_of(GREATEST_NUMBER, [[0, 0, 0], gate])), TOO_LARGE)
 
     def test_empty(self):
         for c in KINDS + (5, GREATEST_KIND):
@@ -217,18 +196,8 @@ class LongestAndGreatest(unittest.TestCase):
 class NothingKept(unittest.TestCase):
 
     def test_what_is_handed_in_stays_and_the_answer_too(self):
-        calls = [
-            (0, row_of(3, [[0, 2, 4], [1]])),
-            (1, row_of(3, [[0, 2, 4], [1]])),
-            (2, row_of(3, [[0, 2, 4]])),
-            (3, row_of(3, [[0, 2, 4]])),
-            (GATES, row_of(2, [[4, 0, 1], [1, 2, 0]])),
-            (GATES, row_of(2, [[4, 1, 0]])),
-            (0, row_of(13)),
-            (0, []),
-        ]
-        answers = [many(c, list(p)) for c, p in calls]
-        for (c, p), answer in zip(calls, answers):
+        answers = [many(c, list(p)) for c, p in mixed_calls()]
+        for (c, p), answer in zip(mixed_calls(), answers):
             before = list(p)
             got = many(c, p)
             self.assertEqual((p, got), (before, answer))
