@@ -1,100 +1,25 @@
-"""Puzzles of wishes and of gates, and which solutions of them are right.
+"""The calls: which solutions of a puzzle are right, and what a puzzle is turned into."""
 
-A puzzle's row is n, k, then each of its rows behind how many numbers this has.
-"""
+from smallwishes.kinds import MOST_SAYINGS_OF_THREES, NEVER_UP, UP_IF_ANY, UP_IF_BOTH, UP_IF_JUST_ONE, UP_IF_NOT
+from smallwishes.kinds import is_of_kind, lists_to_try, row_of, rows_of, size_of, solves, tells_each
 
-# The kinds; threes, 1, are right as wishes are and so are never asked for by name.
-WISHES = 0
-JUST_ONE = 2
-NOT_ALL_ALIKE = 3
-GATES = 4
 LAST_KIND = 4
-
-NEVER_UP = 0
-UP_IF_NOT = 1
-UP_IF_BOTH = 2
-UP_IF_ANY = 3
-UP_IF_JUST_ONE = 4
+LAST_TURN = 7
+# Of each turn the kind that it goes from.
+KINDS_TURNED = (0, 1, 1, 2, 1, 3, 0, 4)
 
 WRONG_PUZZLE = -22
 TOO_LARGE = -28
 NO_SOLUTION = -6
 
 MOST_SIZE = 1000
+MOST_WORK = 40000
 # Twelve numbers, each 0 or 1, make 4,096 lists: the bound on lists asks nothing more.
 MOST_NUMBERS_TRIED = 12
-MOST_SAYINGS_OF_THREES = 3
 
 
-def rows_of(p):
-    """The rows of the puzzle whose row is p; None if p isn't a puzzle's row."""
-    if len(p) < 2:
-        return None
-    rows = []
-    start = 2
-    while start < len(p):
-        end = start + 1 + p[start]
-        if end > len(p):
-            return None
-        rows.append(p[start + 1:end])
-        start = end
-    return rows
-
-
-def size_of(n, rows):
-    """The size of a puzzle: n, its rows and the numbers in these, together."""
-    return n + len(rows) + sum([len(row) for row in rows])
-
-
-def is_wish(row, n):
-    """Whether row holds sayings of different ones of n flags, in the order of the flags."""
-    before = -1
-    for saying in row:
-        flag = saying // 2
-        if flag <= before or flag >= n:
-            return False
-        before = flag
-    return True
-
-
-def is_gate(row, line):
-    """Whether row is a gate that may make the line of this number."""
-    if len(row) != 3:
-        return False
-    work = row[0]
-    a = row[1]
-    b = row[2]
-    if work == NEVER_UP:
-        return a == 0 and b == 0
-    if work == UP_IF_NOT:
-        return a < line and b == 0
-    return work <= UP_IF_JUST_ONE and a <= b and b < line
-
-
-def are_gates(rows, n):
-    """Whether rows are gates that make line after line behind the n given ones."""
-    line = n
-    for row in rows:
-        if not is_gate(row, line):
-            return False
-        line = line + 1
-    return True
-
-
-def is_of_kind(c, n, rows):
-    """Whether the rows are such as a puzzle of kind c with this n may have."""
-    if c == GATES:
-        return are_gates(rows, n)
-    for row in rows:
-        if not is_wish(row, n):
-            return False
-        if c != WISHES and len(row) > MOST_SAYINGS_OF_THREES:
-            return False
-    return True
-
-
-def refusal(c, p):
-    """The refusal that is due whatever is asked of p as a puzzle of kind c; 0 if none is."""
+def refusal(c, p, most):
+    """The refusal that is due if p isn't a puzzle of kind c or its size is above most; 0 if none is."""
     rows = rows_of(p)
     if c > LAST_KIND or rows is None:
         return WRONG_PUZZLE
@@ -102,14 +27,14 @@ def refusal(c, p):
     k = p[1]
     if k != 0 or not is_of_kind(c, n, rows):
         return WRONG_PUZZLE
-    if size_of(n, rows) > MOST_SIZE:
+    if size_of(n, rows) > most:
         return TOO_LARGE
     return 0
 
 
 def refusal_to_try(c, p):
     """The refusal that is due where all lists that may be solutions are tried; 0 if none is."""
-    refused = refusal(c, p)
+    refused = refusal(c, p, MOST_SIZE)
     if refused < 0:
         return refused
     if p[0] > MOST_NUMBERS_TRIED:
@@ -117,79 +42,176 @@ def refusal_to_try(c, p):
     return 0
 
 
-def is_met(saying, s):
-    """Whether the saying is so when the flags are as s tells."""
-    says_up = saying % 2 == 0
-    is_up = s[saying // 2] == 1
-    return says_up == is_up
-
-
-def row_holds(c, row, s):
-    """Whether s does what a row asks in a puzzle of kind c, which isn't gates."""
-    met = len([saying for saying in row if is_met(saying, s)])
-    if c == JUST_ONE:
-        return met == 1
-    if c == NOT_ALL_ALIKE:
-        return 0 < met and met < len(row)
-    return met > 0
-
-
-def gate_answer(gate, lines):
-    """1 if the line that the gate makes of these lines is up, else 0."""
-    work = gate[0]
-    # There may be no line at all ahead of such a gate, so none is looked at.
-    if work == NEVER_UP:
-        return 0
-    a = lines[gate[1]]
-    if work == UP_IF_NOT:
-        return 1 - a
-    b = lines[gate[2]]
-    if work == UP_IF_BOTH:
-        return a & b
-    if work == UP_IF_ANY:
-        return a | b
-    return a ^ b
-
-
-def last_line_is_up(gates, s):
-    """Whether the last of all lines is up when the given ones are as s tells."""
-    lines = list(s)
-    for gate in gates:
-        lines.append(gate_answer(gate, lines))
-    return len(lines) > 0 and lines[-1] == 1
-
-
-def solves(c, rows, s):
-    """Whether s, which tells 0 or 1 of each flag, is right."""
-    if c == GATES:
-        return last_line_is_up(rows, s)
-    for row in rows:
-        if not row_holds(c, row, s):
-            return False
-    return True
-
-
-def tells_each(s, n):
-    """Whether s tells of each of n flags, and of nothing else, whether it's up."""
-    return len(s) == n and all([number <= 1 for number in s])
-
-
-def lists_to_try(n):
-    """All lists of n numbers 0 or 1, in order."""
-    lists = [[]]
-    for flag in range(n):
-        lists = [[0] + rest for rest in lists] + [[1] + rest for rest in lists]
-    return lists
-
-
 def counted(numbers):
     """The numbers behind how many they are."""
     return [len(numbers)] + numbers
 
 
+def opposite(saying):
+    """The other saying of the same flag."""
+    return saying ^ 1
+
+
+def opposites(row):
+    """The opposite of each saying of a row."""
+    return [opposite(saying) for saying in row]
+
+
+def wishes_to_threes(n, rows):
+    """Turn 0: while a wish is too long a new flag stands for its first two sayings."""
+    threes = []
+    flags = n
+    for row in rows:
+        wish = row
+        while len(wish) > MOST_SAYINGS_OF_THREES:
+            a = wish[0]
+            b = wish[1]
+            y = 2 * flags
+            flags = flags + 1
+            threes.extend([[opposite(a), y], [opposite(b), y], [a, b, opposite(y)]])
+            wish = wish[2:] + [y]
+        threes.append(wish)
+    return row_of(flags, threes)
+
+
+def threes_to_wishes(n, rows):
+    """Turn 1: threes are wishes as they are."""
+    return row_of(n, rows)
+
+
+def just_ones_of_two(x, y, flag):
+    """The rows of just one for a row of two, with three new flags from this one on."""
+    a = 2 * flag
+    b = a + 2
+    c = a + 4
+    return [[opposite(x), a, b], [opposite(y), a, c], [a, b, c]]
+
+
+def just_ones_of_three(x, y, z, flag):
+    """The rows of just one for a row of three, with eight new flags from this one on."""
+    a = 2 * flag
+    b = a + 2
+    c = a + 4
+    d = a + 6
+    e = a + 8
+    of_x_and_y = [[opposite(x), a, b], [opposite(y), a, c], [b, c, d], [a, opposite(d), opposite(e)]]
+    # e is up if x or y is met, so what is left to ask for is z or e.
+    return of_x_and_y + just_ones_of_two(z, e, flag + 5)
+
+
+def threes_to_just_one(n, rows):
+    """Turn 2: new flags tell which sayings of a row of two or three are met."""
+    turned = []
+    flags = n
+    for row in rows:
+        if len(row) < 2:
+            turned.append(row)
+        elif len(row) == 2:
+            turned.extend(just_ones_of_two(row[0], row[1], flags))
+            flags = flags + 3
+        else:
+            turned.extend(just_ones_of_three(row[0], row[1], row[2], flags))
+            flags = flags + 8
+    return row_of(flags, turned)
+
+
+def just_one_to_wishes(n, rows):
+    """Turn 3: one saying at least of a row is met, and of each two one isn't."""
+    wishes = []
+    for row in rows:
+        wishes.append(row)
+        for place in range(len(row)):
+            for other in row[place + 1:]:
+                wishes.append(opposites([row[place], other]))
+    return row_of(n, wishes)
+
+
+def threes_to_not_all_alike(n, rows):
+    """Turn 4: a common flag stands for what's down, and a flag of its own parts each row of three."""
+    turned = []
+    common = 2 * n
+    flags = n + 1
+    for row in rows:
+        if len(row) == 0:
+            turned.append(row)
+        elif len(row) < 3:
+            turned.append(row + [common])
+        else:
+            u = 2 * flags
+            flags = flags + 1
+            turned.extend([[row[0], row[1], u], [row[2], common, opposite(u)]])
+    return row_of(flags, turned)
+
+
+def not_all_alike_to_wishes(n, rows):
+    """Turn 5: one saying at least of a row is met, and one at least isn't."""
+    wishes = []
+    for row in rows:
+        wishes.extend([row, opposites(row)])
+    return row_of(n, wishes)
+
+
+def wishes_to_gates(n, rows):
+    """Turn 6: line by line what's met so far of a wish, and what holds of all wishes so far."""
+    never = 2 * n
+    gates = [[UP_IF_NOT, flag, 0] for flag in range(n)] + [[NEVER_UP, 0, 0], [UP_IF_NOT, never, 0]]
+    holds = never + 1
+    for row in rows:
+        so_far = never
+        for saying in row:
+            gates.append([UP_IF_ANY, saying // 2 + n * (saying % 2), so_far])
+            so_far = n + len(gates) - 1
+        # An empty wish leaves so far at a line that comes ahead of what holds.
+        gates.append([UP_IF_BOTH, min(holds, so_far), max(holds, so_far)])
+        holds = n + len(gates) - 1
+    return row_of(n, gates)
+
+
+def wishes_of_gate(gate, line):
+    """The wishes that ask of this line to be as the gate makes it."""
+    work = gate[0]
+    a = 2 * gate[1]
+    b = 2 * gate[2]
+    g = 2 * line
+    not_a = opposite(a)
+    not_b = opposite(b)
+    not_g = opposite(g)
+    if work == NEVER_UP or (work == UP_IF_JUST_ONE and a == b):
+        return [[not_g]]
+    if work == UP_IF_NOT:
+        return [[a, g], [not_a, not_g]]
+    if a == b:
+        return [[a, not_g], [not_a, g]]
+    if work == UP_IF_BOTH:
+        return [[a, not_g], [b, not_g], [not_a, not_b, g]]
+    if work == UP_IF_ANY:
+        return [[not_a, g], [not_b, g], [a, b, not_g]]
+    return [[a, b, not_g], [not_a, not_b, not_g], [not_a, b, g], [a, not_b, g]]
+
+
+def gates_to_wishes(n, rows):
+    """Turn 7: each line is a flag that is as its gate makes it, and the last is up."""
+    wishes = []
+    lines = n
+    for gate in rows:
+        wishes.extend(wishes_of_gate(gate, lines))
+        lines = lines + 1
+    if lines == 0:
+        wishes.append([])
+    else:
+        wishes.append([2 * lines - 2])
+    return row_of(lines, wishes)
+
+
+TURNS = (
+    wishes_to_threes, threes_to_wishes, threes_to_just_one, just_one_to_wishes,
+    threes_to_not_all_alike, not_all_alike_to_wishes, wishes_to_gates, gates_to_wishes,
+)
+
+
 def right(c, p, s):
     """Answers 1 if s is a right solution of p, a puzzle of kind c, else 0."""
-    refused = refusal(c, p)
+    refused = refusal(c, p, MOST_SIZE)
     if refused < 0:
         return [refused]
     if tells_each(s, p[0]) and solves(c, rows_of(p), s):
@@ -216,3 +238,13 @@ def first(c, p):
         if solves(c, rows, s):
             return counted(s)
     return [NO_SOLUTION]
+
+
+def turn(t, p):
+    """Answers how many numbers the row has of the puzzle that p is turned into, then these."""
+    if t > LAST_TURN:
+        return [WRONG_PUZZLE]
+    refused = refusal(KINDS_TURNED[t], p, MOST_WORK)
+    if refused < 0:
+        return [refused]
+    return counted(TURNS[t](p[0], rows_of(p)))

@@ -23,6 +23,19 @@ def row_of(n, rows=(), k=0):
     return p
 
 
+def parts_of(p):
+    """The n and the rows of a puzzle, of its row, whose k is 0."""
+    assert p[1] == 0
+    rows = []
+    start = 2
+    while start < len(p):
+        end = start + 1 + p[start]
+        assert end <= len(p)
+        rows.append(p[start + 1:end])
+        start = end
+    return p[0], rows
+
+
 def lists_of(n):
     """All lists of n numbers 0 or 1, in order."""
     return [list(told) for told in product((0, 1), repeat=n)]
@@ -48,6 +61,24 @@ def judged_right(c, n, rows, s):
     for work, a, b in rows:
         lines.append(table[work](a, b))
     return lines[-1:] == [True]
+
+
+def right_solutions(c, n, rows):
+    """All right solutions of a puzzle, in order, as the second judge has them.
+
+    Of wishes and their like flag by flag, so that what can't become right is left early:
+    turned puzzles have too many flags to try all lists.
+    """
+    if c == GATES:
+        return [s for s in lists_of(n) if judged_right(c, n, rows, s)]
+    if [] in rows:
+        return []
+    found = [[]]
+    for flag in range(n):
+        ending = [row for row in rows if row[-1] >> 1 == flag]
+        longer = [s + [number] for s in found for number in (0, 1)]
+        found = [s for s in longer if judged_right(c, n, ending, s)]
+    return found
 
 
 def wishes_over(n, longest):
