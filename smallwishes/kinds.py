@@ -101,9 +101,14 @@ def is_met(saying, s):
     return says_up == is_up
 
 
+def met_of(row, s):
+    """Of each saying of a row 1 if it's so when the flags are as s tells, else 0."""
+    return [1 if is_met(saying, s) else 0 for saying in row]
+
+
 def row_holds(c, row, s):
     """Whether s does what a row asks in a puzzle of kind c, which isn't gates."""
-    met = len([saying for saying in row if is_met(saying, s)])
+    met = sum(met_of(row, s))
     if c == JUST_ONE:
         return met == 1
     if c == NOT_ALL_ALIKE:
@@ -128,11 +133,17 @@ def gate_answer(gate, lines):
     return a ^ b
 
 
-def last_line_is_up(gates, s):
-    """Whether the last of all lines is up when the given ones are as s tells."""
+def all_lines(gates, s):
+    """Of all lines 1 if they're up, else 0; the given ones, which are as s tells, come first."""
     lines = list(s)
     for gate in gates:
         lines.append(gate_answer(gate, lines))
+    return lines
+
+
+def last_line_is_up(gates, s):
+    """Whether the last of all lines is up when the given ones are as s tells."""
+    lines = all_lines(gates, s)
     return len(lines) > 0 and lines[-1] == 1
 
 

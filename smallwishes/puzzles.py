@@ -1,7 +1,7 @@
-"""The calls: which solutions of a puzzle are right, and what a puzzle is turned into."""
+"""The calls: which solutions of a puzzle are right, what a puzzle is turned into, and where solutions go."""
 
 from smallwishes.kinds import MOST_SAYINGS_OF_THREES, NEVER_UP, UP_IF_ANY, UP_IF_BOTH, UP_IF_JUST_ONE, UP_IF_NOT
-from smallwishes.kinds import is_of_kind, lists_to_try, row_of, rows_of, size_of, solves, tells_each
+from smallwishes.kinds import all_lines, is_of_kind, lists_to_try, met_of, row_of, rows_of, size_of, solves, tells_each
 
 LAST_KIND = 4
 LAST_TURN = 7
@@ -11,6 +11,7 @@ KINDS_TURNED = (0, 1, 1, 2, 1, 3, 0, 4)
 WRONG_PUZZLE = -22
 TOO_LARGE = -28
 NO_SOLUTION = -6
+NOT_RIGHT = -71
 
 MOST_SIZE = 1000
 MOST_WORK = 40000
@@ -40,6 +41,18 @@ def refusal_to_try(c, p):
     if p[0] > MOST_NUMBERS_TRIED:
         return TOO_LARGE
     return 0
+
+
+def refusal_to_turn(t, p):
+    """The refusal that is due if p isn't a puzzle that turn t turns or its work is too much; 0 if none is."""
+    if t > LAST_TURN:
+        return WRONG_PUZZLE
+    return refusal(KINDS_TURNED[t], p, MOST_WORK)
+
+
+def is_solution(c, p, s):
+    """Whether s is a right solution of p, a puzzle of kind c."""
+    return tells_each(s, p[0]) and solves(c, rows_of(p), s)
 
 
 def counted(numbers):
@@ -209,12 +222,73 @@ TURNS = (
 )
 
 
+def goes_to_threes(rows, s):
+    """There by turn 0: a new flag is up if one of the two sayings is met for which it stands."""
+    told = list(s)
+    for row in rows:
+        wish = row
+        while len(wish) > MOST_SAYINGS_OF_THREES:
+            y = 2 * len(told)
+            # One of the two may be a new flag itself, so what's told so far is asked.
+            told.append(max(met_of(wish[:2], told)))
+            wish = wish[2:] + [y]
+    return told
+
+
+def told_of_two(x, y):
+    """What new flags tell of two sayings, each 1 if met: both are, the first alone, the second alone."""
+    return [x & y, x & (1 - y), y & (1 - x)]
+
+
+def told_of_three(x, y, z):
+    """What new flags tell of three sayings, each 1 if met."""
+    e = x | y
+    return told_of_two(x, y) + [1 - (x ^ y), e] + told_of_two(z, e)
+
+
+def goes_to_just_one(rows, s):
+    """There by turn 2: new flags tell which sayings of a row of two or three are met."""
+    told = list(s)
+    for row in rows:
+        met = met_of(row, s)
+        if len(row) == 2:
+            told.extend(told_of_two(met[0], met[1]))
+        elif len(row) == 3:
+            told.extend(told_of_three(met[0], met[1], met[2]))
+    return told
+
+
+def goes_to_not_all_alike(rows, s):
+    """There by turn 4: the common flag is down, and a row's own is up if neither of its first two sayings is met."""
+    told = s + [0]
+    for row in rows:
+        if len(row) == 3:
+            told.append(1 - max(met_of(row[:2], s)))
+    return told
+
+
+def goes_to_wishes_of_gates(rows, s):
+    """There by turn 7: of all lines whether they're up."""
+    return all_lines(rows, s)
+
+
+def goes_as_it_is(rows, s):
+    """There by the other turns, of which a solution tells of the same flags, or lines given, as before."""
+    return s
+
+
+GOES_THERE = (
+    goes_to_threes, goes_as_it_is, goes_to_just_one, goes_as_it_is,
+    goes_to_not_all_alike, goes_as_it_is, goes_as_it_is, goes_to_wishes_of_gates,
+)
+
+
 def right(c, p, s):
     """Answers 1 if s is a right solution of p, a puzzle of kind c, else 0."""
     refused = refusal(c, p, MOST_SIZE)
     if refused < 0:
         return [refused]
-    if tells_each(s, p[0]) and solves(c, rows_of(p), s):
+    if is_solution(c, p, s):
         return [1]
     return [0]
 
@@ -242,9 +316,17 @@ def first(c, p):
 
 def turn(t, p):
     """Answers how many numbers the row has of the puzzle that p is turned into, then these."""
-    if t > LAST_TURN:
-        return [WRONG_PUZZLE]
-    refused = refusal(KINDS_TURNED[t], p, MOST_WORK)
+    refused = refusal_to_turn(t, p)
     if refused < 0:
         return [refused]
     return counted(TURNS[t](p[0], rows_of(p)))
+
+
+def there(t, p, s):
+    """Answers how many numbers the solution of the turned puzzle has to which s, one of p, goes, then these."""
+    refused = refusal_to_turn(t, p)
+    if refused < 0:
+        return [refused]
+    if not is_solution(KINDS_TURNED[t], p, s):
+        return [NOT_RIGHT]
+    return counted(GOES_THERE[t](rows_of(p), s))

@@ -7,11 +7,17 @@ WISH_KINDS = (0, 1, 2, 3)
 THREE_KINDS = (1, 2, 3)
 GATES = 4
 
+TURNS = (0, 1, 2, 3, 4, 5, 6, 7)
+FROM = (0, 1, 1, 2, 1, 3, 0, 4)
+TO = (1, 0, 2, 0, 3, 0, 4, 0)
+
 GREATEST_NUMBER = 18446744073709551615
 GREATEST_KIND = 4294967295
+GREATEST_TOLD = 4294967295
 
 WRONG = [-22]
 TOO_LARGE = [-28]
+NOT_RIGHT = [-71]
 
 
 def row_of(n, rows=(), k=0):
@@ -117,6 +123,85 @@ def small_puzzles(c):
                     yield n, [one, other]
 
 
+def several_rows(t):
+    """Puzzles, of the kind that the turn goes from, of several rows, as pairs of n and rows."""
+    if t in (0, 6):
+        return [
+            (4, [[0, 2, 4, 6], [1, 3, 5, 7]]),
+            (5, [[0, 3, 4, 7, 8], [], [2], [1, 2, 5, 6], [3, 9], [0, 2, 8]]),
+            (6, [[0, 3, 4, 7, 8, 11], [1], [0, 2, 5, 7, 9, 10], [4, 6, 8]]),
+            (7, [[1, 3, 5, 7, 9, 11, 13], [0, 2, 4, 6], [12]]),
+        ]
+    if t == 7:
+        return [
+            (2, [[1, 0, 0], [2, 0, 1], [3, 1, 3], [4, 2, 4], [0, 0, 0], [3, 5, 6]]),
+            (3, [[4, 0, 1], [4, 2, 3], [2, 4, 4], [1, 5, 0], [1, 6, 0]]),
+            (0, [[0, 0, 0], [1, 0, 0], [4, 0, 1], [3, 2, 2], [4, 3, 3], [1, 4, 0]]),
+        ]
+    return [
+        (3, [[0, 2, 4], [1, 3, 5]]),
+        (4, [[0, 3, 5], [2, 6], [1], [3, 4, 7]]),
+        (4, [[2, 7], [0, 4], [1, 2, 5], [1, 3]]),
+        (3, [[0, 2], [], [1, 5]]),
+        (3, [[0], [0, 2, 5], [3], [1, 2, 4], [2, 4]]),
+    ]
+
+
+def long_wishes():
+    """Puzzles of one wish of four to eight sayings, with an idle flag or none."""
+    for length in range(4, 9):
+        for signs in lists_of(length):
+            wish = [2 * flag + sign for flag, sign in enumerate(signs)]
+            yield length, [wish]
+    yield 9, [[2, 5, 8, 11]]
+    yield 9, [[2, 5, 8, 11, 12, 15]]
+
+
+def puzzles_for(t):
+    """Small puzzles and greater ones of the kind that the turn goes from."""
+    yield from small_puzzles(FROM[t])
+    yield from several_rows(t)
+    if FROM[t] == 0:
+        yield from long_wishes()
+
+
+def long_puzzles(t):
+    """Puzzles of the kind that the turn goes from, with many numbers or flags, as n, rows and a right solution."""
+    found = []
+    for n in (400, 1000, 2000):
+        third = [int(flag % 3 == 0) for flag in range(n)]
+        told = ([0] * n, [1] * n, [0] * (n - 1) + [1], third, [1 - number for number in third])
+        for rows in long_rows(t, n):
+            found += [(n, rows, s) for s in told if judged_right(FROM[t], n, rows, s)]
+    return found
+
+
+def long_rows(t, n):
+    """Rows that, beside none at all, make p as long as it may be; they speak of the last of n flags."""
+    if t == 7:
+        several = [[[work, n - 99 + number, n - 1 + number] for number in range(99)] for work in (2, 3, 4)]
+        return several + [[], [[1, n - 1 + number, 0] for number in range(99)], [[0, 0, 0]] * 98 + [[1, n, 0]]]
+    threes = [[2 * flag + 1, 2 * flag + 2, 2 * flag + 4] for flag in range(n - 101, n - 2)]
+    several = [[], [[saying ^ 1 for saying in row] for row in threes], threes]
+    several += [[[2 * flag, 2 * flag + 2, 2 * flag + 4] for flag in range(n - 101, n - 2)]]
+    several += [[[2 * flag] for flag in range(n - 199, n)], [[2 * n - 8, 2 * n - 1]] * 132 + [[2 * n - 1]]]
+    if FROM[t] == 0:
+        several += [[[2 * flag + sign for flag in range(n - 397, n)]] for sign in (0, 1)]
+        several += [[[2 * flag + flag % 3 % 2 for flag in range(n - 397, n)]]]
+    return several
+
+
+def not_told(s):
+    """Lists that don't tell of each flag whether it's up, made of s, which does."""
+    found = [s + [0], s + [1], s + s + [1], [0] * 2000, [1] * 2000, [GREATEST_TOLD] * 2000]
+    if s:
+        found += [[], s[:-1], s[1:]]
+    for place in range(len(s)):
+        for number in (2, 3, 4, GREATEST_TOLD - 1, GREATEST_TOLD):
+            found.append(s[:place] + [number] + s[place + 1:])
+    return [wrong for wrong in found if len(wrong) != len(s) or set(wrong) - {0, 1}]
+
+
 def wrong_calls():
     """Pairs of a kind and a row of which each is refused by point 1."""
     calls = []
@@ -156,6 +241,49 @@ def calls_too_large_to_try():
     gate = [4, GREATEST_NUMBER, GREATEST_NUMBER]
     calls += [(GATES, row_of(n, [[0, 0, 0]])) for n in (13, 1001)]
     return calls + [(GATES, row_of(GREATEST_NUMBER, [[0, 0, 0], gate]))]
+
+
+def wrong_turns():
+    """Pairs of a turn and a row of which each is refused by point 1."""
+    calls = []
+    for t in (8, 9, 1000, GREATEST_KIND):
+        calls += [(t, p) for p in ([0, 0], [3, 0, 2, 0, 2], [2, 0, 3, 2, 0, 1], [])]
+    for c, p in wrong_calls():
+        calls += [(t, p) for t in TURNS if FROM[t] == c]
+    for t in TURNS:
+        if t not in (0, 6):
+            calls += [(t, row_of(4, [[0, 3, 4, 7]])), (t, row_of(7, [[0, 2], [1, 3, 5, 9, 12], [4]]))]
+        if t == 7:
+            calls += [(t, row_of(2, [[0, 3]])), (t, row_of(2, [[]])), (t, row_of(3, [[0, 2, 4], [1]]))]
+        else:
+            calls += [(t, row_of(2, [[2, 1, 1]])), (t, row_of(0, [[0, 0, 0]])), (t, row_of(2, [[1, 0, 0]]))]
+    return calls
+
+
+def wrong_and_large_turns():
+    """Pairs of a turn and a row that are refused by point 1 ahead of point 2."""
+    calls = []
+    for n in (40001, GREATEST_NUMBER):
+        for t in TURNS:
+            calls += [(t, row_of(n, (), 1)), (t, row_of(n) + [1]), (t, row_of(n, [[2, 2]]))]
+            if FROM[t] in THREE_KINDS:
+                calls += [(t, row_of(n, [[0, 2, 4, 6]]))]
+        calls += [(7, row_of(n, [[5, 0, 0]])), (8, row_of(n)), (GREATEST_KIND, row_of(n))]
+    gate = [4, GREATEST_NUMBER, GREATEST_NUMBER]
+    return calls + [(7, row_of(GREATEST_NUMBER, [gate]))]
+
+
+def turns_too_large():
+    """Pairs of a turn and a row of which each is refused by point 2."""
+    calls = [(t, row_of(n)) for t in TURNS for n in (40001, GREATEST_NUMBER)]
+    for t in TURNS[:7]:
+        calls += [(t, row_of(39996, [[0, 3], [5]])), (t, row_of(40000, [[]])), (t, row_of(39603, [[]] * 398))]
+        calls += [(t, row_of(GREATEST_NUMBER // 2 + 1, [[GREATEST_NUMBER]]))]
+    wish = [2 * flag + flag % 3 % 2 for flag in range(397)]
+    calls += [(t, row_of(39603, [wish])) for t in (0, 6)]
+    gate = [4, GREATEST_NUMBER, GREATEST_NUMBER]
+    calls += [(7, row_of(39993, [[1, 0, 0], [3, 7, 39992]])), (7, row_of(39605, [[0, 0, 0]] * 99))]
+    return calls + [(7, row_of(GREATEST_NUMBER, [[0, 0, 0], gate]))]
 
 
 def mixed_calls():

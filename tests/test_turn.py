@@ -4,13 +4,10 @@ import unittest
 
 from smallwishes.puzzles import many, right, turn
 from tests.helper import (
-    GATES, GREATEST_KIND, GREATEST_NUMBER, TOO_LARGE, WRONG,
-    gates_for, lists_of, parts_of, right_solutions, row_of, small_puzzles, wishes_over, wrong_calls,
+    FROM, GATES, GREATEST_KIND, GREATEST_NUMBER, TO, TOO_LARGE, TURNS, WRONG,
+    gates_for, lists_of, parts_of, puzzles_for, right_solutions, row_of, several_rows, small_puzzles,
+    turns_too_large, wishes_over, wrong_and_large_turns, wrong_turns,
 )
-
-TURNS = (0, 1, 2, 3, 4, 5, 6, 7)
-FROM = (0, 1, 1, 2, 1, 3, 0, 4)
-TO = (1, 0, 2, 0, 3, 0, 4, 0)
 
 # Rows as the document tells them, a letter for a saying, a great one for its opposite;
 # xyz are what the row says, the other letters new flags, "-" is a row of no saying.
@@ -114,48 +111,6 @@ def answer_of(n, rows):
     """What turn answers if the turned puzzle is this."""
     p = row_of(n, rows)
     return [len(p)] + p
-
-
-def several_rows(t):
-    """Puzzles, of the kind that the turn goes from, of several rows, as pairs of n and rows."""
-    if t in (0, 6):
-        return [
-            (4, [[0, 2, 4, 6], [1, 3, 5, 7]]),
-            (5, [[0, 3, 4, 7, 8], [], [2], [1, 2, 5, 6], [3, 9], [0, 2, 8]]),
-            (6, [[0, 3, 4, 7, 8, 11], [1], [0, 2, 5, 7, 9, 10], [4, 6, 8]]),
-            (7, [[1, 3, 5, 7, 9, 11, 13], [0, 2, 4, 6], [12]]),
-        ]
-    if t == 7:
-        return [
-            (2, [[1, 0, 0], [2, 0, 1], [3, 1, 3], [4, 2, 4], [0, 0, 0], [3, 5, 6]]),
-            (3, [[4, 0, 1], [4, 2, 3], [2, 4, 4], [1, 5, 0], [1, 6, 0]]),
-            (0, [[0, 0, 0], [1, 0, 0], [4, 0, 1], [3, 2, 2], [4, 3, 3], [1, 4, 0]]),
-        ]
-    return [
-        (3, [[0, 2, 4], [1, 3, 5]]),
-        (4, [[0, 3, 5], [2, 6], [1], [3, 4, 7]]),
-        (4, [[2, 7], [0, 4], [1, 2, 5], [1, 3]]),
-        (3, [[0, 2], [], [1, 5]]),
-        (3, [[0], [0, 2, 5], [3], [1, 2, 4], [2, 4]]),
-    ]
-
-
-def long_wishes():
-    """Puzzles of one wish of four to eight sayings, with an idle flag or none."""
-    for length in range(4, 9):
-        for signs in lists_of(length):
-            wish = [2 * flag + sign for flag, sign in enumerate(signs)]
-            yield length, [wish]
-    yield 9, [[2, 5, 8, 11]]
-    yield 9, [[2, 5, 8, 11, 12, 15]]
-
-
-def puzzles_for(t):
-    """Small puzzles and greater ones of the kind that the turn goes from."""
-    yield from small_puzzles(FROM[t])
-    yield from several_rows(t)
-    if FROM[t] == 0:
-        yield from long_wishes()
 
 
 class TurnedRows(unittest.TestCase):
@@ -385,16 +340,9 @@ class Corners(unittest.TestCase):
 
 class Refusals(unittest.TestCase):
 
-    def test_not_a_turn(self):
-        for t in (8, 9, 1000, GREATEST_KIND):
-            for p in ([0, 0], [3, 0, 2, 0, 2], [2, 0, 3, 2, 0, 1], [40001, 0], []):
-                self.assertEqual(turn(t, p), WRONG, (t, p))
-
-    def test_wrong_puzzles(self):
-        for c, p in wrong_calls():
-            for t in TURNS:
-                if FROM[t] == c:
-                    self.assertEqual(turn(t, p), WRONG, (t, p))
+    def test_wrong_puzzles_and_turns(self):
+        for t, p in wrong_turns():
+            self.assertEqual(turn(t, p), WRONG, (t, p))
 
     def test_a_kind_that_the_turn_does_not_go_from(self):
         four = row_of(4, [[0, 3, 4, 7]])
@@ -406,12 +354,18 @@ class Refusals(unittest.TestCase):
             self.assertEqual(turn(t, wishes) == WRONG, t == 7, t)
             self.assertEqual(turn(t, gates) == WRONG, t != 7, t)
 
+    def test_too_much_work(self):
+        for t, p in turns_too_large():
+            self.assertEqual(turn(t, p), TOO_LARGE, (t, p))
+
+    def test_point_1_comes_ahead_of_point_2(self):
+        for t, p in wrong_and_large_turns():
+            self.assertEqual(turn(t, p), WRONG, (t, p))
+
     def test_work(self):
         for t in TURNS:
             for n in (1001, 39999, 40000):
                 self.assertEqual(turn(t, row_of(n)), answer_of(*turned_again(t, n, [])))
-            self.assertEqual(turn(t, row_of(40001)), TOO_LARGE)
-            self.assertEqual(turn(t, row_of(GREATEST_NUMBER)), TOO_LARGE)
 
     def test_work_of_rows(self):
         # Rows and the numbers in them count: 39995 + 2 + 3, and 39992 + 2 + 6.
@@ -424,18 +378,6 @@ class Refusals(unittest.TestCase):
         rows = [[1, 0, 0], [3, 7, 39992]]
         self.assertEqual(turn(7, row_of(39992, rows)), answer_of(*turned_again(7, 39992, rows)))
         self.assertEqual(turn(7, row_of(39993, rows)), TOO_LARGE)
-
-    def test_point_1_comes_ahead_of_point_2(self):
-        for t in TURNS:
-            for n in (40001, GREATEST_NUMBER):
-                self.assertEqual(turn(t, row_of(n, (), 1)), WRONG)
-                self.assertEqual(turn(t, row_of(n) + [1]), WRONG)
-                self.assertEqual(turn(t, row_of(n, [[2, 2]])), WRONG)
-                if FROM[t] in (1, 2, 3):
-                    self.assertEqual(turn(t, row_of(n, [[0, 2, 4, 6]])), WRONG)
-        self.assertEqual(turn(7, row_of(40001, [[5, 0, 0]])), WRONG)
-        self.assertEqual(turn(8, row_of(40001)), WRONG)
-        self.assertEqual(turn(GREATEST_KIND, row_of(GREATEST_NUMBER)), WRONG)
 
 
 class LongestAndGreatest(unittest.TestCase):
