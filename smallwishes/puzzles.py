@@ -5,8 +5,10 @@ from smallwishes.kinds import all_lines, is_of_kind, lists_to_try, met_of, row_o
 
 LAST_KIND = 4
 LAST_TURN = 7
-# Of each turn the kind that it goes from.
+# Of each turn the kind that it goes from, and the one that it goes to.
 KINDS_TURNED = (0, 1, 1, 2, 1, 3, 0, 4)
+KINDS_MADE = (1, 0, 2, 0, 3, 0, 4, 0)
+TURN_WITH_COMMON_FLAG = 4
 
 WRONG_PUZZLE = -22
 TOO_LARGE = -28
@@ -283,6 +285,14 @@ GOES_THERE = (
 )
 
 
+def comes_home(t, n, s):
+    """The solution of a puzzle with this n as which s, one of the puzzle turned by turn t, comes home."""
+    if t != TURN_WITH_COMMON_FLAG:
+        return s[:n]
+    # With all flags turned s is right as well, so a flag tells something only beside the common one.
+    return [number ^ s[n] for number in s[:n]]
+
+
 def right(c, p, s):
     """Answers 1 if s is a right solution of p, a puzzle of kind c, else 0."""
     refused = refusal(c, p, MOST_SIZE)
@@ -330,3 +340,14 @@ def there(t, p, s):
     if not is_solution(KINDS_TURNED[t], p, s):
         return [NOT_RIGHT]
     return counted(GOES_THERE[t](rows_of(p), s))
+
+
+def home(t, p, s):
+    """Answers how many numbers the solution of p has as which s, one of the turned puzzle, comes home, then these."""
+    refused = refusal_to_turn(t, p)
+    if refused < 0:
+        return [refused]
+    n = p[0]
+    if not is_solution(KINDS_MADE[t], TURNS[t](n, rows_of(p)), s):
+        return [NOT_RIGHT]
+    return counted(comes_home(t, n, s))

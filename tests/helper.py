@@ -1,4 +1,4 @@
-"""What the tests of several calls share: rows of puzzles, wrong puzzles, a second judge."""
+"""What the tests of several calls share: rows of puzzles, wrong puzzles, a second judge, tests of there and home."""
 
 from itertools import combinations, product
 
@@ -150,7 +150,8 @@ def several_rows(t):
 def long_wishes():
     """Puzzles of one wish of four to eight sayings, with an idle flag or none."""
     for length in range(4, 9):
-        for signs in lists_of(length):
+        # Of the longest, whose right solutions are many, not each way to sign them.
+        for signs in lists_of(length)[::1 if length < 7 else 17]:
             wish = [2 * flag + sign for flag, sign in enumerate(signs)]
             yield length, [wish]
     yield 9, [[2, 5, 8, 11]]
@@ -200,6 +201,14 @@ def not_told(s):
         for number in (2, 3, 4, GREATEST_TOLD - 1, GREATEST_TOLD):
             found.append(s[:place] + [number] + s[place + 1:])
     return [wrong for wrong in found if len(wrong) != len(s) or set(wrong) - {0, 1}]
+
+
+def some_told(p):
+    """Lists to hand in as s beside p, such as tell of each of its flags among them if they can be."""
+    told = [[], [0], [1], [1, 0], [0, 0, 1], [2], [GREATEST_TOLD] * 2000]
+    if p and p[0] <= 2000:
+        told += [[0] * p[0], [1] * p[0]]
+    return told
 
 
 def wrong_calls():
@@ -378,3 +387,52 @@ def wrong_gates():
             (2, [[work, 0, GREATEST_NUMBER]]),
         ]
     return pairs
+
+
+class WithSolution:
+    """What is tested alike of there and home; a test case sets call to the one of them."""
+
+    call = None
+
+    def test_wrong_puzzles_and_turns(self):
+        for t, p in wrong_turns() + wrong_and_large_turns():
+            for s in some_told(p):
+                self.assertEqual(self.call(t, p, s), WRONG, (t, p, s))
+
+    def test_too_much_work_comes_ahead_of_what_is_not_right(self):
+        for t, p in turns_too_large():
+            for s in some_told(p):
+                self.assertEqual(self.call(t, p, s), TOO_LARGE, (t, p, s))
+
+    def test_work_that_is_not_too_much(self):
+        # With so many flags no s is long enough to be right, but the work is not refused.
+        for t in TURNS:
+            for n in (2001, 39999, 40000):
+                self.assertEqual(self.call(t, row_of(n), [1] * 2000), NOT_RIGHT)
+                self.assertEqual(self.call(t, row_of(n), []), NOT_RIGHT)
+            if t != 7:
+                self.assertEqual(self.call(t, row_of(39995, [[0, 3], [5]]), []), NOT_RIGHT)
+                self.assertEqual(self.call(t, row_of(39999, [[]]), [0]), NOT_RIGHT)
+        self.assertEqual(self.call(7, row_of(39992, [[1, 0, 0], [3, 7, 39992]]), [1]), NOT_RIGHT)
+
+    def test_greatest_numbers(self):
+        for t in TURNS + (8, GREATEST_KIND):
+            self.assertEqual(self.call(t, [GREATEST_NUMBER] * 400, [GREATEST_TOLD] * 2000), WRONG)
+
+    def test_empty(self):
+        for t in TURNS + (8, GREATEST_KIND):
+            self.assertEqual(self.call(t, [], []), WRONG)
+            self.assertEqual(self.call(t, [], [1, 0]), WRONG)
+
+    def test_what_is_handed_in_stays_and_the_answer_too(self):
+        calls = [(0, row_of(40001), [1]), (3, row_of(4, [[0, 2, 4, 6]]), [0]), (8, [0, 0], []), (7, [], [])]
+        calls += self.several_calls()
+        answers = [self.call(t, list(p), list(s)) for t, p, s in calls]
+        for (t, p, s), answer in zip(calls, answers):
+            before = (list(p), list(s))
+            got = self.call(t, p, s)
+            self.assertEqual(((p, s), got), (before, answer))
+            for place in range(len(got)):
+                got[place] = 9
+            got.append(9)
+            self.assertEqual(((p, s), self.call(t, p, s)), (before, answer))

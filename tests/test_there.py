@@ -4,9 +4,9 @@ import unittest
 
 from smallwishes.puzzles import right, there, turn
 from tests.helper import (
-    FROM, GATES, GREATEST_KIND, GREATEST_NUMBER, GREATEST_TOLD, NOT_RIGHT, TO, TOO_LARGE, TURNS, WRONG,
+    FROM, GATES, NOT_RIGHT, TO, TURNS, WithSolution,
     judged_right, lists_of, long_puzzles, not_told, parts_of, puzzles_for, right_solutions, row_of, several_rows,
-    small_puzzles, turns_too_large, wrong_and_large_turns, wrong_turns,
+    small_puzzles,
 )
 
 # For which sayings of a wish, told by their places in it, each new flag stands.
@@ -244,35 +244,12 @@ class NotRight(unittest.TestCase):
         self.assertEqual(there(7, [1, 0, 3, 1, 0, 0], [0, 1]), NOT_RIGHT)
 
 
-class Refusals(unittest.TestCase):
+class AsOfThereAndHome(WithSolution, unittest.TestCase):
 
-    def some_told(self, p):
-        """Solutions to hand in beside p, one that tells of each flag among them if it can be."""
-        told = [[], [0], [1], [1, 0], [0, 0, 1], [2], [GREATEST_TOLD] * 2000]
-        if p and p[0] <= 2000:
-            told += [[0] * p[0], [1] * p[0]]
-        return told
+    call = staticmethod(there)
 
-    def test_wrong_puzzles_and_turns(self):
-        for t, p in wrong_turns() + wrong_and_large_turns():
-            for s in self.some_told(p):
-                self.assertEqual(there(t, p, s), WRONG, (t, p, s))
-
-    def test_too_much_work_comes_ahead_of_what_is_not_right(self):
-        for t, p in turns_too_large():
-            for s in self.some_told(p):
-                self.assertEqual(there(t, p, s), TOO_LARGE, (t, p, s))
-
-    def test_work_that_is_not_too_much(self):
-        # With so many flags no s is long enough to be right, but the work is not refused.
-        for t in TURNS:
-            for n in (2001, 39999, 40000):
-                self.assertEqual(there(t, row_of(n), [1] * 2000), NOT_RIGHT)
-                self.assertEqual(there(t, row_of(n), []), NOT_RIGHT)
-            if t != 7:
-                self.assertEqual(there(t, row_of(39995, [[0, 3], [5]]), []), NOT_RIGHT)
-                self.assertEqual(there(t, row_of(39999, [[]]), [0]), NOT_RIGHT)
-        self.assertEqual(there(7, row_of(39992, [[1, 0, 0], [3, 7, 39992]]), [1]), NOT_RIGHT)
+    def several_calls(self):
+        return [(t, row_of(n, rows), s) for t in TURNS for n, rows in several_rows(t) for s in lists_of(n)]
 
 
 class LongestAndGreatest(unittest.TestCase):
@@ -303,28 +280,3 @@ class LongestAndGreatest(unittest.TestCase):
         self.assertEqual(got, [2001] + [1] * 2000 + [0])
         got = there(7, row_of(2000, [[1, 0, 0]] * 99), [0] * 2000)
         self.assertEqual(got, [2099] + [0] * 2000 + [1] * 99)
-
-    def test_greatest_numbers(self):
-        for t in TURNS + (8, GREATEST_KIND):
-            self.assertEqual(there(t, [GREATEST_NUMBER] * 400, [GREATEST_TOLD] * 2000), WRONG)
-
-    def test_empty(self):
-        for t in TURNS + (8, GREATEST_KIND):
-            self.assertEqual(there(t, [], []), WRONG)
-            self.assertEqual(there(t, [], [1, 0]), WRONG)
-
-
-class NothingKept(unittest.TestCase):
-
-    def test_what_is_handed_in_stays_and_the_answer_too(self):
-        calls = [(t, row_of(n, rows), s) for t in TURNS for n, rows in several_rows(t) for s in lists_of(n)]
-        calls += [(0, row_of(40001), [1]), (3, row_of(4, [[0, 2, 4, 6]]), [0]), (8, [0, 0], []), (7, [], [])]
-        answers = [there(t, list(p), list(s)) for t, p, s in calls]
-        for (t, p, s), answer in zip(calls, answers):
-            before = (list(p), list(s))
-            got = there(t, p, s)
-            self.assertEqual(((p, s), got), (before, answer))
-            for place in range(len(got)):
-                got[place] = 9
-            got.append(9)
-            self.assertEqual(((p, s), there(t, p, s)), (before, answer))
